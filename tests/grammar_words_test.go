@@ -60,6 +60,12 @@ func wordsUpTo(toks, most int) [][]int {
 
 // someGrammars makes the same many good grammars at every run.
 func someGrammars(count int) []impl.Grammar {
+	return pickedGrammars(count, 3, 8, 5)
+}
+
+// pickedGrammars makes them with at most nons nonterminals, and with fewer than
+// rules rules whose Rights have fewer than right symbols.
+func pickedGrammars(count, nons, rules, right int) []impl.Grammar {
 	state := uint64(1)
 	pick := func(n int) int {
 		state = state*6364136223846793005 + 1442695040888963407
@@ -67,10 +73,10 @@ func someGrammars(count int) []impl.Grammar {
 	}
 	var out []impl.Grammar
 	for len(out) < count {
-		g := grammar(1+pick(3), 1+pick(2))
-		for n := pick(8); n > 0; n-- {
+		g := grammar(1+pick(nons), 1+pick(2))
+		for n := pick(rules); n > 0; n-- {
 			r := rule(pick(g.Nons))
-			for long := pick(5); long > 0; long-- {
+			for long := pick(right); long > 0; long-- {
 				r.Right = append(r.Right, pick(g.Nons+g.Toks)-g.Toks)
 			}
 			g.Rules = append(g.Rules, r)
