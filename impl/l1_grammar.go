@@ -60,16 +60,25 @@ func isSymbol(g Grammar, x int) bool {
 	return isNon(g, x) || isToken(g, -1-x)
 }
 
-func goodRule(g Grammar, r Rule) bool {
-	if !isNon(g, r.Left) || !withinLimit(countRight, len(r.Right)) {
-		return false
-	}
-	for _, x := range r.Right {
+func allSymbols(g Grammar, list []int) bool {
+	for _, x := range list {
 		if !isSymbol(g, x) {
 			return false
 		}
 	}
 	return true
+}
+
+func goodRight(g Grammar, right []int) bool {
+	return withinLimit(countRight, len(right)) && allSymbols(g, right)
+}
+
+func goodRule(g Grammar, r Rule) bool {
+	return isNon(g, r.Left) && goodRight(g, r.Right)
+}
+
+func isRuleNumber(g Grammar, rule int) bool {
+	return 0 <= rule && rule < len(g.Rules)
 }
 
 func sameRule(a Rule, b Rule) bool {
@@ -207,7 +216,7 @@ func RenameNons(g Grammar, to []int) (Grammar, bool) {
 }
 
 func WithoutRule(g Grammar, rule int) (Grammar, bool) {
-	if !GoodGrammar(g) || rule < 0 || rule >= len(g.Rules) {
+	if !GoodGrammar(g) || !isRuleNumber(g, rule) {
 		return Grammar{}, false
 	}
 	out := copyGrammar(g)

@@ -58,6 +58,22 @@ func wordsUpTo(toks, most int) [][]int {
 	return words
 }
 
+// picker gives the same numbers at every run.
+type picker struct{ state uint64 }
+
+func (p *picker) pick(n int) int {
+	p.state = p.state*6364136223846793005 + 1442695040888963407
+	return int(p.state>>33) % n
+}
+
+func (p *picker) symbols(g impl.Grammar, count int) []int {
+	list := []int{}
+	for range count {
+		list = append(list, p.pick(g.Nons+g.Toks)-g.Toks)
+	}
+	return list
+}
+
 // someGrammars makes the same many good grammars at every run.
 func someGrammars(count int) []impl.Grammar {
 	return pickedGrammars(count, 3, 8, 5)
@@ -66,20 +82,13 @@ func someGrammars(count int) []impl.Grammar {
 // pickedGrammars makes them with at most nons nonterminals, and with fewer than
 // rules rules whose Rights have fewer than right symbols.
 func pickedGrammars(count, nons, rules, right int) []impl.Grammar {
-	state := uint64(1)
-	pick := func(n int) int {
-		state = state*6364136223846793005 + 1442695040888963407
-		return int(state>>33) % n
-	}
+	p := picker{1}
 	var out []impl.Grammar
 	for len(out) < count {
-		g := grammar(1+pick(nons), 1+pick(2))
-		for n := pick(rules); n > 0; n-- {
-			r := rule(pick(g.Nons))
-			for long := pick(right); long > 0; long-- {
-				r.Right = append(r.Right, pick(g.Nons+g.Toks)-g.Toks)
-			}
-			g.Rules = append(g.Rules, r)
+		g := grammar(1+p.pick(nons), 1+p.pick(2))
+		for n := p.pick(rules); n > 0; n-- {
+			left := p.pick(g.Nons)
+			g.Rules = append(g.Rules, rule(left, p.symbols(g, p.pick(right))...))
 		}
 		if impl.GoodGrammar(g) {
 			out = append(out, g)

@@ -12,15 +12,7 @@ func grammarOf(text string) impl.Grammar {
 	lines := strings.Split(text, ";")
 	g := grammar(int(lines[0][0]-'0'), int(lines[0][2]-'0'))
 	for _, line := range lines[1:] {
-		r := rule(strings.IndexByte(nonLetters, line[0]))
-		for _, c := range []byte(line[2:]) {
-			if x := strings.IndexByte(nonLetters, c); x >= 0 {
-				r.Right = append(r.Right, x)
-			} else {
-				r.Right = append(r.Right, token(strings.IndexByte(tokLetters, c)))
-			}
-		}
-		g.Rules = append(g.Rules, r)
+		g.Rules = append(g.Rules, rule(strings.IndexByte(nonLetters, line[0]), symbolsOf(line[2:])...))
 	}
 	return g
 }
