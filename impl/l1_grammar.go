@@ -19,13 +19,14 @@ type Grammar struct {
 	Rules []Rule
 }
 
-// The things that a grammar or a word has a limited number of.
+// The things that a grammar, a word or a binary grammar has a limited number of.
 const (
 	countNons = iota
 	countToks
 	countRules
 	countRight
 	countWord
+	countParts
 )
 
 type limit struct {
@@ -40,6 +41,7 @@ var limits = [...]limit{
 	countRules: {0, MaxRules},
 	countRight: {0, MaxRight},
 	countWord:  {0, MaxWord},
+	countParts: {1, MaxParts},
 }
 
 func withinLimit(what int, count int) bool {
