@@ -111,8 +111,8 @@ func GoodGrammar(g Grammar) bool {
 	return true
 }
 
-func GoodWord(g Grammar, w []int) bool {
-	if !GoodGrammar(g) || !withinLimit(countWord, len(w)) {
+func goodTokens(g Grammar, w []int) bool {
+	if !withinLimit(countWord, len(w)) {
 		return false
 	}
 	for _, t := range w {
@@ -121,6 +121,10 @@ func GoodWord(g Grammar, w []int) bool {
 		}
 	}
 	return true
+}
+
+func GoodWord(g Grammar, w []int) bool {
+	return GoodGrammar(g) && goodTokens(g, w)
 }
 
 func RulesOf(g Grammar, non int) ([]int, bool) {
