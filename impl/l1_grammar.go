@@ -19,7 +19,8 @@ type Grammar struct {
 	Rules []Rule
 }
 
-// The things that a grammar, a word or a binary grammar has a limited number of.
+// The things that a grammar, a word, a binary grammar or a wave has a limited
+// number of.
 const (
 	countNons = iota
 	countToks
@@ -27,6 +28,8 @@ const (
 	countRight
 	countWord
 	countParts
+	countHands
+	countPicks
 )
 
 type limit struct {
@@ -42,6 +45,8 @@ var limits = [...]limit{
 	countRight: {0, MaxRight},
 	countWord:  {0, MaxWord},
 	countParts: {1, MaxParts},
+	countHands: {1, MaxHands},
+	countPicks: {0, MaxPicks},
 }
 
 func withinLimit(what int, count int) bool {
