@@ -19,8 +19,8 @@ type Grammar struct {
 	Rules []Rule
 }
 
-// The things that a grammar, a word, a binary grammar or a wave has a limited
-// number of.
+// The things that a grammar, a word, a binary grammar, a wave or a forest has a
+// limited number of.
 const (
 	countNons = iota
 	countToks
@@ -30,6 +30,8 @@ const (
 	countParts
 	countHands
 	countPicks
+	countNodes
+	countEdges
 )
 
 type limit struct {
@@ -47,6 +49,8 @@ var limits = [...]limit{
 	countParts: {1, MaxParts},
 	countHands: {1, MaxHands},
 	countPicks: {0, MaxPicks},
+	countNodes: {0, MaxEdges},
+	countEdges: {0, MaxEdges},
 }
 
 func withinLimit(what int, count int) bool {
